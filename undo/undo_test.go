@@ -11,6 +11,7 @@ import (
 
 	"veil/api"
 	"veil/mach"
+	"veil/sample"
 )
 
 // The limits are written out as numbers, so that they share no name with what they test.
@@ -33,73 +34,14 @@ var far = []int{
 	math.MaxInt32, math.MaxUint32, math.MaxInt - 1, math.MaxInt, math.MinInt32, math.MinInt, math.MinInt + 1, math.MinInt + 3, math.MinInt + 5,
 }
 
-// ids: a lock of 1 is that of Id 0, of 2 that of Id 1, and 255 that of the greatest one; nobody has an Id whose lock is 9 or 254.
-var ids = [maxSessions]int{0, 1, 40, 254}
-
-// locks stand at the words of level 0 to 3: of each session one or more at each level, of none, and of nobody that is there.
-var locks = [4][4]int{{1, 2, 41, 255}, {255, 0, 1, 9}, {2, 2, 1, 41}, {41, 254, 2, 1}}
-
-// laidSession has a number of its own in each field; those of other places have others.
-func laidSession(at int) api.Session {
-	return api.Session{
-		Id: ids[at], Label: 1, Clear: 3,
-		Prog: []api.Inst{
-			{Code: 2, A: 1, B: 3, C: 2}, {Code: 3, A: at, B: 1, C: 1}, {Code: 4, A: 2, B: 4}, {Code: 0, B: 200 + at}, {Code: 1, A: 3, B: 2}, {Code: 6, A: at},
-		},
-		Step: at + 1, Pc: at + 2, Regs: [4]int{at + 1, 9, 255, 4},
-		Reads:  []api.Read{{Level: 3, Index: at, Version: 5 + at}, {Level: 0, Index: at, Version: 65535}},
-		Writes: []api.Write{{Level: 0, Index: 1, Value: at}, {Level: 1, Index: 0, Value: 77}, {Level: 3, Index: 2, Value: 255}},
-		At:     at%3 + 1, Stamp: 300 + at, Tries: 20 + at, Result: at + 1, Told: 120 + at,
-	}
-}
-
-// laid is a machine that may be, of so many sessions, with something in each of its lists; it is made anew at each call.
-func laid(sessions int) api.Machine {
-	m := api.Machine{
-		Clocks: [4]int{5, 0, 1000, 37}, Ceiling: 1000,
-		Trace: []api.Event{{Id: 3, Label: 2, Kind: 4, Value: -6}, {Id: 900, Label: 3, Kind: 70, Value: 8}},
-	}
-	for level := range m.Words {
-		for index := range 4 {
-			m.Words[level] = append(m.Words[level], api.Word{Value: 60*level + index, Version: 100*level + 7*index, Lock: locks[level][index]})
-		}
-	}
-	for at := range sessions {
-		m.Sessions = append(m.Sessions, laidSession(at))
-	}
-	return m
-}
-
-// trace is of n events, no two of which are the same.
-func trace(n int) []api.Event {
-	var es []api.Event
-	for at := range n {
-		es = append(es, api.Event{Id: at, Label: at % 4, Kind: at % 7, Value: 1000 - at})
-	}
-	return es
-}
-
 // tell is a machine whole, each field by its name; an empty list and nil are one there.
 func tell(m api.Machine) string { return fmt.Sprintf("%+v", m) }
 
 func isZero(m api.Machine) bool { return reflect.DeepEqual(m, api.Machine{}) }
 
-// copied is a machine of lists of its own.
-func copied(m api.Machine) api.Machine {
-	for level, list := range m.Words {
-		m.Words[level] = slices.Clone(list)
-	}
-	m.Sessions, m.Trace = slices.Clone(m.Sessions), slices.Clone(m.Trace)
-	for at := range m.Sessions {
-		s := &m.Sessions[at]
-		s.Prog, s.Reads, s.Writes = slices.Clone(s.Prog), slices.Clone(s.Reads), slices.Clone(s.Writes)
-	}
-	return m
-}
-
 // dropped is what both do first.
 func dropped(m api.Machine, at int) (api.Machine, *api.Session) {
-	m = copied(m)
+	m = sample.Copy(m)
 	s := &m.Sessions[at]
 	for _, list := range m.Words {
 		for index := range list {
@@ -210,7 +152,7 @@ func TestLimits(t *testing.T) {
 		t.Fatal("the steps or results of these tests are not those of package api")
 	}
 	for n := range maxSessions + 1 {
-		if !mach.May(laid(n)) {
+		if !mach.May(sample.Machine(n)) {
 			t.Fatalf("the machine of %d sessions of these tests may not be", n)
 		}
 	}
@@ -248,73 +190,22 @@ func TestOrdinary(t *testing.T) {
 func TestEachPlace(t *testing.T) {
 	for n := 1; n <= maxSessions; n++ {
 		for at := range n {
-			m := laid(n)
+			m := sample.Machine(n)
 			bothAre(t, m, at)
 			for other := range n {
-				m.Sessions[other] = api.Session{Id: ids[other]}
+				m.Sessions[other] = api.Session{Id: sample.Id(other)}
 				bothAre(t, m, at)
 			}
 		}
 	}
 }
 
-// faults are one thing each that must not be, some of them in a session.
-func faults() []func(m *api.Machine) {
-	return []func(m *api.Machine){
-		func(m *api.Machine) { m.Words[1] = make([]api.Word, 5) },
-		func(m *api.Machine) { m.Words[3][2].Lock = 256 },
-		func(m *api.Machine) { m.Words[0][3].Lock = -1 },
-		func(m *api.Machine) { m.Words[2][0].Value = 256 },
-		func(m *api.Machine) { m.Words[2][1].Version = 65536 },
-		func(m *api.Machine) { m.Ceiling = 65536 },
-		func(m *api.Machine) { m.Clocks[0] = -1 },
-		func(m *api.Machine) { m.Clocks[2] = 1001 },
-		func(m *api.Machine) { m.Trace = make([]api.Event, 513) },
-		func(m *api.Machine) { m.Trace[1].Label = 4 },
-		func(m *api.Machine) { m.Sessions[2].Id = m.Sessions[1].Id },
-		func(m *api.Machine) { m.Sessions[3].Id = 255 },
-		func(m *api.Machine) { m.Sessions[0].Id = -1 },
-		func(m *api.Machine) { m.Sessions[0].Label = 4 },
-		func(m *api.Machine) { m.Sessions[3].Clear = 2 },
-		func(m *api.Machine) { m.Sessions[0].Prog[3] = api.Inst{Code: 7} },
-		func(m *api.Machine) { m.Sessions[1].Prog[2].B = 2 },
-		func(m *api.Machine) { m.Words[1] = nil },
-	}
-}
-
-// sessionFaults are in what both write over, be it so: the machine handed in may not be, whatever would be answered.
-func sessionFaults() []func(s *api.Session) {
-	return []func(s *api.Session){
-		func(s *api.Session) { s.Step = 7 },
-		func(s *api.Session) { s.Step = -1 },
-		func(s *api.Session) { s.Pc = 7 },
-		func(s *api.Session) { s.Pc = -1 },
-		func(s *api.Session) { s.Regs[0] = -1 },
-		func(s *api.Session) { s.Regs[3] = 256 },
-		func(s *api.Session) { s.Reads[1] = s.Reads[0] },
-		func(s *api.Session) { s.Reads[1].Level = 4 },
-		func(s *api.Session) { s.Reads = make([]api.Read, 17) },
-		func(s *api.Session) { s.Writes[0], s.Writes[1] = s.Writes[1], s.Writes[0] },
-		func(s *api.Session) { s.Writes[2].Value = 256 },
-		func(s *api.Session) { s.Writes = make([]api.Write, 17) },
-		func(s *api.Session) { s.At = 4 },
-		func(s *api.Session) { s.At = -1 },
-		func(s *api.Session) { s.Stamp = 65536 },
-		func(s *api.Session) { s.Tries = 65536 },
-		func(s *api.Session) { s.Tries = -1 },
-		func(s *api.Session) { s.Result = 6 },
-		func(s *api.Session) { s.Result = -1 },
-		func(s *api.Session) { s.Told = 256 },
-		func(s *api.Session) { s.Told = -1 },
-	}
-}
-
 // Each fault alone and two at once, at places that are there and that are not.
 func TestMachinesThatMayNotBe(t *testing.T) {
 	places := []int{-1, 0, 1, 2, 3, 4, 5, math.MaxInt, math.MinInt}
-	for first, fault := range faults() {
-		for second, other := range faults() {
-			m := laid(4)
+	for first, fault := range sample.Faults() {
+		for second, other := range sample.Faults() {
+			m := sample.Machine(4)
 			fault(&m)
 			if second != first {
 				other(&m)
@@ -337,24 +228,16 @@ func TestMachinesThatMayNotBe(t *testing.T) {
 
 // Lists that are far too long are refused, too, wherever they stand.
 func TestListsThatAreFarTooLong(t *testing.T) {
-	const many = 1 << 18
-	for _, m := range []api.Machine{
-		{Words: [4][]api.Word{nil, make([]api.Word, many)}, Sessions: make([]api.Session, 1)},
-		{Sessions: make([]api.Session, many)},
-		{Sessions: []api.Session{{Prog: make([]api.Inst, many)}}},
-		{Sessions: []api.Session{{Reads: make([]api.Read, many)}}},
-		{Sessions: []api.Session{{Writes: make([]api.Write, many)}}},
-		{Sessions: make([]api.Session, 1), Trace: make([]api.Event, many)},
-	} {
+	for _, m := range sample.TooLong() {
 		bothRefused(t, "a list that is far too long", m, 0)
 	}
 }
 
 // A fault in a session, both that at the place asked for and another.
 func TestSessionsThatMayNotBe(t *testing.T) {
-	for which, fault := range sessionFaults() {
+	for which, fault := range sample.SessionFaults() {
 		for wrong := range maxSessions {
-			m := laid(4)
+			m := sample.Machine(4)
 			fault(&m.Sessions[wrong])
 			for at := -1; at <= maxSessions; at++ {
 				bothRefused(t, fmt.Sprint("session fault ", which, " in ", wrong), m, at)
@@ -366,23 +249,23 @@ func TestSessionsThatMayNotBe(t *testing.T) {
 func TestNoSuchSession(t *testing.T) {
 	for n := range maxSessions + 1 {
 		for _, at := range append([]int{n, n + 1, n + 3, n + 4, n + 256, 1<<32 + n, -n - 1}, far...) {
-			bothRefused(t, fmt.Sprint("no session of ", n), laid(n), at)
+			bothRefused(t, fmt.Sprint("no session of ", n), sample.Machine(n), at)
 		}
 	}
 	bothRefused(t, "no session at all", api.Machine{}, 0)
-	m := laid(2)
-	m.Sessions = laid(4).Sessions[:2]
+	m := sample.Machine(2)
+	m.Sessions = sample.Machine(4).Sessions[:2]
 	bothRefused(t, "a session in the room behind the others", m, 2)
 	bothRefused(t, "a session in the room behind the others", m, 3)
-	m = laid(2)
-	m.Trace = trace(maxTrace)
+	m = sample.Machine(2)
+	m.Trace = sample.Trace(maxTrace)
 	bothRefused(t, "no such session, and a full Trace", m, 2)
 }
 
 func TestAgainOfEachKind(t *testing.T) {
 	for at := range maxSessions {
 		for kind := -300; kind <= 300; kind++ {
-			m := laid(4)
+			m := sample.Machine(4)
 			if kind == conflict || kind == wake {
 				againIs(t, m, at, kind)
 			} else {
@@ -390,11 +273,11 @@ func TestAgainOfEachKind(t *testing.T) {
 			}
 		}
 		for _, kind := range far {
-			againRefused(t, "no such kind", laid(4), at, kind)
+			againRefused(t, "no such kind", sample.Machine(4), at, kind)
 		}
 	}
-	m := laid(4)
-	m.Trace = trace(maxTrace)
+	m := sample.Machine(4)
+	m.Trace = sample.Trace(maxTrace)
 	for _, kind := range []int{-1, 0, 1, 2, 4, 6, 7} {
 		againRefused(t, "no such kind, and a full Trace", m, 1, kind)
 	}
@@ -404,7 +287,7 @@ func TestAgainOfEachKind(t *testing.T) {
 func TestEndOfEachResultAndNumber(t *testing.T) {
 	for result := -3; result <= results+2; result++ {
 		for told := -3; told <= maxTold+3; told++ {
-			m, at := laid(4), (result+told+6)%maxSessions
+			m, at := sample.Machine(4), (result+told+6)%maxSessions
 			if result >= 0 && result < results && told >= 0 && told <= maxTold {
 				endIs(t, m, at, result, told)
 			} else {
@@ -414,11 +297,11 @@ func TestEndOfEachResultAndNumber(t *testing.T) {
 	}
 	for _, n := range append([]int{256, 257, 300, 511, 512, 65535}, far...) {
 		for at := range maxSessions {
-			m := laid(4)
+			m := sample.Machine(4)
 			endRefused(t, "no such result", m, at, n, 7)
 			endRefused(t, "no such number", m, at, 2, n)
 			endRefused(t, "no such result, no such number", m, at, n, n)
-			m.Trace = trace(maxTrace)
+			m.Trace = sample.Trace(maxTrace)
 			endRefused(t, "no such result, and a full Trace", m, at, n, 7)
 			endRefused(t, "no such number, and a full Trace", m, at, 2, n)
 		}
@@ -431,7 +314,7 @@ func TestEachStepAndResult(t *testing.T) {
 		for step := range steps {
 			for result := range results {
 				for pc := range 7 {
-					m := laid(4)
+					m := sample.Machine(4)
 					s := &m.Sessions[at]
 					s.Step, s.Result, s.Pc, s.Told = step, result, pc, 40*result
 					bothAre(t, m, at)
@@ -446,23 +329,23 @@ func TestEachField(t *testing.T) {
 	for at := range maxSessions {
 		for _, n := range []int{0, 1, 2, 3, 127, 128, 254, 255} {
 			for which := range 4 {
-				m := laid(4)
+				m := sample.Machine(4)
 				m.Sessions[at].Regs[which] = n
 				bothAre(t, m, at)
 				m.Sessions[at].Regs = [4]int{n, n, n, n}
 				bothAre(t, m, at)
 			}
-			m := laid(4)
+			m := sample.Machine(4)
 			m.Sessions[at].Told = n
 			bothAre(t, m, at)
 		}
 		for _, n := range []int{0, 1, 255, 256, 65534, 65535} {
-			m := laid(4)
+			m := sample.Machine(4)
 			m.Sessions[at].Stamp = n
 			bothAre(t, m, at)
 		}
 		for n := range 4 {
-			m := laid(4)
+			m := sample.Machine(4)
 			m.Sessions[at].At = n
 			bothAre(t, m, at)
 		}
@@ -473,7 +356,7 @@ func TestEachField(t *testing.T) {
 func TestEachListOfASession(t *testing.T) {
 	for at := range maxSessions {
 		for n := range 17 {
-			m := laid(4)
+			m := sample.Machine(4)
 			s := &m.Sessions[at]
 			s.Prog, s.Reads, s.Writes, s.At = slices.Repeat([]api.Inst{{Code: 5}}, n), []api.Read{}, []api.Write{}, n
 			s.Pc = n
@@ -484,7 +367,7 @@ func TestEachListOfASession(t *testing.T) {
 			bothAre(t, m, at)
 			bothAre(t, m, (at+1)%maxSessions)
 		}
-		m := laid(4)
+		m := sample.Machine(4)
 		s := &m.Sessions[at]
 		s.Prog, s.Reads, s.Writes, s.At, s.Pc = nil, nil, nil, 0, 0
 		bothAre(t, m, at)
@@ -495,7 +378,7 @@ func TestEachListOfASession(t *testing.T) {
 func TestEachLabel(t *testing.T) {
 	for _, pair := range [][2]int{{0, 0}, {0, 1}, {0, 2}, {0, 3}, {1, 1}, {1, 3}, {2, 2}, {2, 3}, {3, 3}} {
 		for at := range maxSessions {
-			m := laid(4)
+			m := sample.Machine(4)
 			m.Sessions[at].Label, m.Sessions[at].Clear = pair[0], pair[1]
 			bothAre(t, m, at)
 			bothAre(t, m, (at+1)%maxSessions)
@@ -507,7 +390,7 @@ func TestEachLabel(t *testing.T) {
 func TestTries(t *testing.T) {
 	for at := range maxSessions {
 		for _, tries := range []int{0, 1, 2, 3, 254, 255, 256, 257, 65533, maxClock - 1, maxClock} {
-			m := laid(4)
+			m := sample.Machine(4)
 			m.Sessions[at].Tries = tries
 			bothAre(t, m, at)
 			got, _ := Again(m, at, wake)
@@ -531,7 +414,7 @@ func TestEachLockAtEachWord(t *testing.T) {
 	for level := range 4 {
 		for index := range 4 {
 			for _, lock := range []int{0, 1, 2, 3, 8, 39, 40, 41, 42, 128, 253, 254, 255} {
-				m := laid(4)
+				m := sample.Machine(4)
 				for l, list := range m.Words {
 					for i := range list {
 						list[i].Lock = 0
@@ -570,7 +453,7 @@ func TestOneLockAtAllWords(t *testing.T) {
 // The words named in Writes, and how far they were locked, do not tell which words are free then: the locks do.
 func TestLocksDoNotHangOnWrites(t *testing.T) {
 	for at := range maxSessions {
-		m := laid(4)
+		m := sample.Machine(4)
 		m.Sessions[at].Writes, m.Sessions[at].At = nil, 0
 		bothAre(t, m, at)
 		m.Sessions[at].Writes, m.Sessions[at].At = []api.Write{{Index: 3}, {Level: 2, Index: 3}}, 0
@@ -584,8 +467,8 @@ func TestLocksDoNotHangOnWrites(t *testing.T) {
 func TestTraces(t *testing.T) {
 	for _, n := range []int{0, 1, 2, 255, 256, 510, maxTrace - 1, maxTrace} {
 		for at := range maxSessions {
-			m := laid(4)
-			m.Trace = trace(maxTrace + 9)[:n]
+			m := sample.Machine(4)
+			m.Trace = sample.Trace(maxTrace + 9)[:n]
 			bothAre(t, m, at)
 			got, _ := Again(m, at, conflict)
 			ended, _ := End(m, at, 1, 0)
@@ -600,10 +483,10 @@ func TestTraces(t *testing.T) {
 func TestTwice(t *testing.T) {
 	for at := range maxSessions {
 		for other := range maxSessions {
-			first := againIs(t, laid(4), at, conflict)
+			first := againIs(t, sample.Machine(4), at, conflict)
 			bothAre(t, first, other)
 			bothAre(t, againIs(t, first, other, wake), at)
-			ended := endIs(t, laid(4), at, 4, 9)
+			ended := endIs(t, sample.Machine(4), at, 4, 9)
 			bothAre(t, ended, other)
 			bothAre(t, endIs(t, ended, other, 4, 9), at)
 		}
@@ -613,208 +496,67 @@ func TestTwice(t *testing.T) {
 // All that turns when it is done a second time is named here.
 func TestTwiceTurnsNoMore(t *testing.T) {
 	for at := range maxSessions {
-		once, _ := Again(laid(4), at, conflict)
+		once, _ := Again(sample.Machine(4), at, conflict)
 		twice, _ := Again(once, at, conflict)
-		want := copied(once)
+		want := sample.Copy(once)
 		want.Sessions[at].Tries++
-		want.Trace = append(want.Trace, api.Event{Id: ids[at], Label: 1, Kind: conflict, Value: 22 + at})
+		want.Trace = append(want.Trace, api.Event{Id: sample.Id(at), Label: 1, Kind: conflict, Value: 22 + at})
 		if tell(twice) != tell(want) {
 			t.Errorf("P13.1: Again twice is %s, want %s", tell(twice), tell(want))
 		}
-		once, _ = End(laid(4), at, 2, 77)
+		once, _ = End(sample.Machine(4), at, 2, 77)
 		twice, _ = End(once, at, 2, 77)
-		want = copied(once)
-		want.Trace = append(want.Trace, api.Event{Id: ids[at], Label: 1, Kind: end, Value: 2})
+		want = sample.Copy(once)
+		want.Trace = append(want.Trace, api.Event{Id: sample.Id(at), Label: 1, Kind: end, Value: 2})
 		if tell(twice) != tell(want) {
 			t.Errorf("P13.2: End twice is %s, want %s", tell(twice), tell(want))
 		}
 	}
 }
 
-// lists are all that a value holds, with the room behind them, those of their items and of the items in their room too.
-func lists(v reflect.Value) []reflect.Value {
-	var all []reflect.Value
-	switch v.Kind() {
-	case reflect.Slice:
-		v = v.Slice(0, v.Cap())
-		all = append(all, v)
-		for at := range v.Len() {
-			all = append(all, lists(v.Index(at))...)
-		}
-	case reflect.Array:
-		for at := range v.Len() {
-			all = append(all, lists(v.Index(at))...)
-		}
-	case reflect.Struct:
-		for at := range v.NumField() {
-			all = append(all, lists(v.Field(at))...)
-		}
-	}
-	return all
-}
-
-func listsOf(m api.Machine) []reflect.Value { return lists(reflect.ValueOf(m)) }
-
-// room puts items that tell behind a list.
-func room[T any](list []T, items ...T) []T {
-	return append(slices.Clone(list), items...)[:len(list)]
-}
-
-// roomy is a machine with such room behind each of its lists.
-func roomy(m api.Machine) api.Machine {
-	m = copied(m)
-	for level, list := range m.Words {
-		m.Words[level] = room(list, api.Word{Value: 111, Lock: 1}, api.Word{Lock: 2})
-	}
-	for at := range m.Sessions {
-		s := &m.Sessions[at]
-		s.Prog = room(s.Prog, api.Inst{Code: 111}, api.Inst{A: 111})
-		s.Reads = room(s.Reads, api.Read{Level: 111}, api.Read{Index: 111})
-		s.Writes = room(s.Writes, api.Write{Level: 111}, api.Write{Index: 111})
-	}
-	m.Sessions = room(m.Sessions, laidSession(0), laidSession(3))
-	m.Trace = room(m.Trace, api.Event{Id: 111}, api.Event{Kind: 111})
-	return m
-}
-
-// whole tells a machine, and what lies in its lists' room.
-func whole(m api.Machine) string {
-	all := tell(m)
-	for _, list := range listsOf(m) {
-		all += fmt.Sprintf("%+v", list.Interface())
-	}
-	return all
-}
-
-// writeOver puts another number into every number of a machine's lists, and of their room.
-func writeOver(m api.Machine) {
-	for _, list := range listsOf(m) {
-		for at := range list.Len() {
-			writeOverItem(list.Index(at))
-		}
-	}
-}
-
-// writeOverItem leaves the lists of an item where they are, so that what writes over them finds them.
-func writeOverItem(item reflect.Value) {
-	switch item.Kind() {
-	case reflect.Int:
-		item.SetInt(-99)
-	case reflect.Array:
-		for at := range item.Len() {
-			writeOverItem(item.Index(at))
-		}
-	case reflect.Struct:
-		for at := range item.NumField() {
-			writeOverItem(item.Field(at))
-		}
-	}
-}
-
-// area is where a list lies, its room too.
-type area struct {
-	from, to uintptr
-	list     reflect.Value
-}
-
-// noneShared: no two lists of all these machines lie in one place.
-func noneShared(t *testing.T, what string, ms ...api.Machine) {
-	t.Helper()
-	var all []area
-	for _, m := range ms {
-		for _, list := range listsOf(m) {
-			if list.Len() > 0 {
-				all = append(all, area{list.Pointer(), list.Pointer() + uintptr(list.Len())*list.Type().Elem().Size(), list})
-			}
-		}
-	}
-	for at, one := range all {
-		for _, other := range all[:at] {
-			if one.from < other.to && other.from < one.to {
-				t.Fatalf("R4: %s: two lists lie in one place: %+v, %+v", what, one.list.Interface(), other.list.Interface())
-			}
-		}
-	}
-}
-
-// call is one way of calling either, of a machine handed in.
-type call struct {
-	what string
-	of   func(m api.Machine) (api.Machine, api.Errno)
-}
-
-// calls are at each place, beyond them, and with what is refused.
-func calls() []call {
-	var all []call
+// calls are some of the ways of calling both: at each place, beyond them, and with what is refused.
+func calls() map[string]sample.Call {
+	all := map[string]sample.Call{}
 	for at := -1; at <= maxSessions; at++ {
 		for _, kind := range []int{conflict, wake, 4} {
-			all = append(all, call{fmt.Sprint("Again ", at, ", ", kind), func(m api.Machine) (api.Machine, api.Errno) { return Again(m, at, kind) }})
+			all[fmt.Sprint("Again ", at, ", ", kind)] = func(m api.Machine) (api.Machine, api.Errno) { return Again(m, at, kind) }
 		}
 		for _, result := range []int{0, 5, 6} {
-			all = append(all, call{fmt.Sprint("End ", at, ", ", result), func(m api.Machine) (api.Machine, api.Errno) { return End(m, at, result, 8) }})
+			all[fmt.Sprint("End ", at, ", ", result)] = func(m api.Machine) (api.Machine, api.Errno) { return End(m, at, result, 8) }
 		}
 	}
 	return all
 }
 
-// machines are some that may be, and some that may not, with room behind their lists.
+// machines are some that may be, and some that may not.
 func machines() []api.Machine {
-	all := []api.Machine{{}, laid(4)}
+	all := []api.Machine{{}}
 	for n := range maxSessions + 1 {
-		all = append(all, roomy(laid(n)))
+		all = append(all, sample.Machine(n))
 	}
 	for _, n := range []int{0, 1, 511, 512, 513} {
-		m := laid(3)
-		m.Trace = trace(n)
-		all = append(all, roomy(m))
+		m := sample.Machine(3)
+		m.Trace = sample.Trace(n)
+		all = append(all, m)
 	}
-	for _, fault := range faults() {
-		m := laid(4)
+	for _, fault := range sample.Faults() {
+		m := sample.Machine(4)
 		fault(&m)
-		all = append(all, roomy(m))
+		all = append(all, m)
 	}
-	for which, fault := range sessionFaults() {
-		m := laid(4)
+	for which, fault := range sample.SessionFaults() {
+		m := sample.Machine(4)
 		fault(&m.Sessions[which%maxSessions])
-		all = append(all, roomy(m))
+		all = append(all, m)
 	}
 	return all
 }
 
-func TestWhatIsHandedInStays(t *testing.T) {
-	for _, m := range machines() {
-		old := whole(m)
-		for _, one := range calls() {
-			if one.of(m); whole(m) != old {
-				t.Fatalf("R4: %s: the machine handed in, or its room, is %s, was %s", one.what, whole(m), old)
-			}
-		}
-	}
-}
-
-// Neither writing over an answer nor over the machine handed in turns anything else; laying on behind a list does not, either.
-func TestNothingIsShared(t *testing.T) {
-	for _, handed := range machines() {
-		if !mach.May(handed) {
-			continue
-		}
-		for _, one := range calls() {
-			m := roomy(handed)
-			old := whole(m)
-			first, e := one.of(m)
-			second, again := one.of(m)
-			want := whole(first)
-			if whole(second) != want || again != e {
-				t.Fatalf("R5: %s: answers %s, %d, then %s, %d", one.what, want, e, whole(second), again)
-			}
-			noneShared(t, one.what, m, first, second)
-			_ = append(first.Trace, api.Event{Id: -9})
-			_ = append(first.Sessions, api.Session{Id: -9})
-			if writeOver(first); whole(m) != old || whole(second) != want {
-				t.Fatalf("R4: %s: writing over an answer turned the machine handed in, or another answer", one.what)
-			}
-			if writeOver(m); whole(second) != want {
-				t.Fatalf("R4: %s: writing over the machine handed in turned an answer", one.what)
+func TestNothingIsTurnedOrShared(t *testing.T) {
+	for which, m := range machines() {
+		for what, call := range calls() {
+			if broken := sample.Broken(m, call); broken != "" {
+				t.Errorf("%s: %s of machine %d", broken, what, which)
 			}
 		}
 	}
@@ -835,7 +577,9 @@ func TestListsThatWereOne(t *testing.T) {
 		bothAre(t, m, at)
 		got, _ := Again(m, at, wake)
 		ended, _ := End(m, at, 1, 2)
-		noneShared(t, "lists that were one", got, ended)
+		if sample.Shared(got, ended) {
+			t.Errorf("R4: two lists of answers are one")
+		}
 	}
 }
 
@@ -843,13 +587,13 @@ func TestListsThatWereOne(t *testing.T) {
 func TestCallsDoNotHangOnOthers(t *testing.T) {
 	list := machines()
 	for _, m := range list {
-		for _, one := range calls() {
-			first, e := one.of(m)
+		for what, call := range calls() {
+			first, e := call(m)
 			for _, other := range list[:8] {
-				one.of(other)
+				call(other)
 			}
-			if second, again := one.of(m); tell(first) != tell(second) || e != again {
-				t.Fatalf("R5: %s: answered %s, %d, then %s, %d", one.what, tell(first), e, tell(second), again)
+			if second, again := call(m); tell(first) != tell(second) || e != again {
+				t.Fatalf("R5: %s: answered %s, %d, then %s, %d", what, tell(first), e, tell(second), again)
 			}
 		}
 	}
@@ -858,7 +602,7 @@ func TestCallsDoNotHangOnOthers(t *testing.T) {
 // No helper that ends the test is called here, as these are other goroutines than the test's.
 func TestAnswersHangOnArgumentsAlone(t *testing.T) {
 	var wg sync.WaitGroup
-	m := laid(4)
+	m := sample.Machine(4)
 	for at := range maxSessions {
 		again, ended := tell(wantAgain(m, at, wake)), tell(wantEnd(m, at, 2, at))
 		for range 4 {

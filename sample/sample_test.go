@@ -1,0 +1,184 @@
+package sample
+
+import (
+	"fmt"
+	"reflect"
+	"testing"
+
+	"veil/api"
+	"veil/mach"
+)
+
+func tell(m api.Machine) string { return fmt.Sprintf("%+v", m) }
+
+func TestMachinesMayBe(t *testing.T) {
+	for n := range 5 {
+		m := Machine(n)
+		for at := range n {
+			if m.Sessions[at].Id != Id(at) {
+				t.Errorf("the Id at %d is %d, want %d", at, m.Sessions[at].Id, Id(at))
+			}
+		}
+		if len(m.Sessions) != n || !mach.May(m) || !mach.May(Roomy(m)) || !mach.May(Copy(m)) {
+			t.Errorf("the machine of %d sessions may not be", n)
+		}
+	}
+	for _, n := range []int{0, 1, 511, 512} {
+		m := Machine(2)
+		if m.Trace = Trace(n); len(m.Trace) != n || !mach.May(m) {
+			t.Errorf("the machine of %d events may not be", n)
+		}
+	}
+}
+
+func TestFaultsBreak(t *testing.T) {
+	for which, fault := range Faults() {
+		m := Machine(4)
+		if fault(&m); mach.May(m) {
+			t.Errorf("fault %d breaks nothing", which)
+		}
+	}
+	for which, fault := range SessionFaults() {
+		for at := range 4 {
+			m := Machine(4)
+			if fault(&m.Sessions[at]); mach.May(m) {
+				t.Errorf("session fault %d breaks nothing at %d", which, at)
+			}
+		}
+	}
+	for which, m := range TooLong() {
+		if mach.May(m) {
+			t.Errorf("machine %d with a list too long may be", which)
+		}
+	}
+}
+
+func TestCopies(t *testing.T) {
+	for n := range 5 {
+		m := Machine(n)
+		if tell(Copy(m)) != tell(m) || tell(Roomy(m)) != tell(m) {
+			t.Errorf("a copy of %s is %s, or %s", tell(m), tell(Copy(m)), tell(Roomy(m)))
+		}
+		if Shared(m, Copy(m), Roomy(m), Roomy(m)) {
+			t.Error("copies share lists")
+		}
+	}
+	if m := Copy(Roomy(Machine(3))); cap(m.Sessions) != 3 || cap(m.Sessions[2].Prog) != 6 || cap(m.Words[3]) != 4 || cap(m.Trace) != 2 {
+		t.Error("a copy has room behind its lists")
+	}
+	if m := Roomy(Machine(3)); cap(m.Sessions) != 5 || cap(m.Sessions[2].Reads) != 4 || cap(m.Sessions[0].Writes) != 5 || cap(m.Words[3]) != 6 || cap(m.Trace) != 4 {
+		t.Error("a roomy machine has no room behind its lists")
+	}
+}
+
+// ints counts what numbers must find in the lists of a value.
+func ints(v reflect.Value, inList bool) int {
+	n := 0
+	switch v.Kind() {
+	case reflect.Int:
+		if inList {
+			n = 1
+		}
+	case reflect.Slice:
+		for at := range v.Cap() {
+			n += ints(v.Slice(0, v.Cap()).Index(at), true)
+		}
+	case reflect.Array:
+		for at := range v.Len() {
+			n += ints(v.Index(at), inList)
+		}
+	case reflect.Struct:
+		for at := range v.NumField() {
+			n += ints(v.Field(at), inList)
+		}
+	}
+	return n
+}
+
+func TestNumbersAreAll(t *testing.T) {
+	for _, m := range []api.Machine{{}, Machine(1), Machine(4), Roomy(Machine(0)), Roomy(Machine(4))} {
+		if got, want := len(numbers(m)), ints(reflect.ValueOf(m), false); got != want {
+			t.Errorf("there are %d numbers in lists, want %d", got, want)
+		}
+	}
+	m := Roomy(Machine(4))
+	before := row(m)
+	for _, n := range numbers(m) {
+		old := *n
+		*n = -99
+		if same := fmt.Sprint(row(m)) == fmt.Sprint(before); same {
+			t.Error("a row does not tell a number")
+		}
+		*n = old
+	}
+}
+
+func TestShared(t *testing.T) {
+	m, other := Machine(2), Machine(2)
+	if Shared(m, other) || Shared() || Shared(m) {
+		t.Error("machines that share nothing are told to share")
+	}
+	if !Shared(m, m) {
+		t.Error("a machine does not share with itself")
+	}
+	other.Sessions[1].Reads = m.Sessions[0].Reads
+	if !Shared(m, other) || Shared(other) {
+		t.Error("a list of two machines is not told")
+	}
+	m.Words[2] = m.Words[0]
+	if !Shared(m) {
+		t.Error("a list at two places is not told")
+	}
+	m = Machine(2)
+	m.Words[3] = m.Words[1][2:]
+	if !Shared(m) {
+		t.Error("a part of a list is not told")
+	}
+}
+
+// kept is what a call that keeps its argument kept.
+var kept api.Machine
+
+func TestBroken(t *testing.T) {
+	turns := 0
+	for what, call := range map[string]Call{
+		"turns what is handed in": func(m api.Machine) (api.Machine, api.Errno) { m.Sessions[1].Regs[2]++; return Copy(m), 0 },
+		"turns the room":          func(m api.Machine) (api.Machine, api.Errno) { _ = append(m.Trace, api.Event{}); return Copy(m), 0 },
+		"answers the same lists":  func(m api.Machine) (api.Machine, api.Errno) { return m, 0 },
+		"shares one list": func(m api.Machine) (api.Machine, api.Errno) {
+			next := Copy(m)
+			next.Sessions[0].Writes = m.Sessions[0].Writes
+			return next, 0
+		},
+		"shares within an answer": func(m api.Machine) (api.Machine, api.Errno) {
+			next := Copy(m)
+			next.Words[1] = next.Words[0]
+			return next, 0
+		},
+		"counts its calls": func(m api.Machine) (api.Machine, api.Errno) {
+			turns++
+			return api.Machine{Ceiling: turns}, 0
+		},
+		"counts its errors": func(m api.Machine) (api.Machine, api.Errno) { turns++; return api.Machine{}, api.Errno(turns) },
+		"keeps what is handed in": func(m api.Machine) (api.Machine, api.Errno) {
+			if len(kept.Words[0]) == 0 {
+				kept = m
+			}
+			return api.Machine{Ceiling: kept.Words[0][0].Value}, 0
+		},
+	} {
+		if Broken(Machine(2), call) == "" {
+			t.Errorf("a call that %s is told to break nothing", what)
+		}
+	}
+	m := Machine(2)
+	if what := Broken(m, func(m api.Machine) (api.Machine, api.Errno) { return Copy(m), 0 }); what != "" {
+		t.Errorf("a call that answers a copy is told to break %s", what)
+	}
+	if what := Broken(m, func(api.Machine) (api.Machine, api.Errno) { return api.Machine{}, 7 }); what != "" {
+		t.Errorf("a call that refuses is told to break %s", what)
+	}
+	if tell(m) != tell(Machine(2)) {
+		t.Errorf("the machine asked of is %s then", tell(m))
+	}
+}
