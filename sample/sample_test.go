@@ -3,6 +3,8 @@ package sample
 import (
 	"fmt"
 	"reflect"
+	"slices"
+	"sync"
 	"testing"
 
 	"veil/api"
@@ -180,5 +182,117 @@ func TestBroken(t *testing.T) {
 	}
 	if tell(m) != tell(Machine(2)) {
 		t.Errorf("the machine asked of is %s then", tell(m))
+	}
+}
+
+func TestAnyBroken(t *testing.T) {
+	var ceilings [2]int
+	var lock sync.Mutex
+	turn := func(m api.Machine) int {
+		lock.Lock()
+		defer lock.Unlock()
+		ceilings = [2]int{ceilings[1], m.Ceiling}
+		return ceilings[0]
+	}
+	ms := []api.Machine{Machine(0), Machine(2), {Ceiling: 7}, Machine(4)}
+	for what, call := range map[string]Call{
+		"breaks a rule of one of them": func(m api.Machine) (api.Machine, api.Errno) {
+			if len(m.Sessions) == 4 {
+				return m, 0
+			}
+			return Copy(m), 0
+		},
+		"answers of the one before":  func(m api.Machine) (api.Machine, api.Errno) { return api.Machine{Ceiling: turn(m)}, 0 },
+		"refuses for the one before": func(m api.Machine) (api.Machine, api.Errno) { return api.Machine{}, api.Errno(turn(m)) },
+	} {
+		if AnyBroken(ms, call) == "" {
+			t.Errorf("a call that %s is told to break nothing", what)
+		}
+	}
+	if what := AnyBroken(ms, func(m api.Machine) (api.Machine, api.Errno) { return Copy(m), 0 }); what != "" {
+		t.Errorf("a call that answers a copy is told to break %s", what)
+	}
+	if what := AnyBroken(nil, func(m api.Machine) (api.Machine, api.Errno) { return m, 0 }); what != "" {
+		t.Errorf("a call that is asked of nothing is told to break %s", what)
+	}
+}
+
+// A call that answers each of them as it must, but another thing where all of them are asked again, or where several goroutines ask.
+func TestAnyBrokenByTurns(t *testing.T) {
+	ms := []api.Machine{{Ceiling: 1}, {Ceiling: 2}}
+	for _, from := range []int{8, 10} {
+		var lock sync.Mutex
+		calls := 0
+		what := AnyBroken(ms, func(m api.Machine) (api.Machine, api.Errno) {
+			lock.Lock()
+			defer lock.Unlock()
+			if calls++; calls > from {
+				return api.Machine{}, 0
+			}
+			return Copy(m), 0
+		})
+		if what == "" {
+			t.Errorf("a call that answers another thing behind %d calls is told to break nothing", from)
+		}
+	}
+}
+
+// ready sets a session at its CodeWrite.
+func ready(s *api.Session) { s.Step, s.Pc = 0, 1 }
+
+func TestNoSession(t *testing.T) {
+	seen := map[int]int{}
+	for _, w := range NoSession(ready) {
+		n := len(w.Machine.Sessions)
+		if !mach.May(w.Machine) || w.At >= 0 && w.At < n {
+			t.Errorf("%s: at %d of %s", w.What, w.At, tell(w.Machine))
+		}
+		for _, s := range w.Machine.Sessions {
+			if s.Step != 0 || s.Pc != 1 {
+				t.Errorf("%s: %+v is not ready", w.What, s)
+			}
+		}
+		if w.At == n || w.At == -1 {
+			seen[n]++
+		}
+	}
+	for n := range 5 {
+		if seen[n] < 2 {
+			t.Errorf("the places next to those of %d sessions are not told", n)
+		}
+	}
+}
+
+func TestMayNotBe(t *testing.T) {
+	list := MayNotBe(ready)
+	for _, w := range list {
+		if mach.May(w.Machine) {
+			t.Errorf("%s: %s may be", w.What, tell(w.Machine))
+		}
+	}
+	faults := len(Faults())
+	if want := 6 * (faults*faults + 4*len(SessionFaults()) + len(TooLong())); len(list) != want {
+		t.Errorf("there are %d machines that may not be, want %d", len(list), want)
+	}
+}
+
+// Each code but CodeZero, whose instruction does not stand anywhere, and several at once.
+func TestNotAt(t *testing.T) {
+	for _, codes := range [][]int{{0}, {1}, {2}, {3}, {5}, {6}, {0, 1, 4}} {
+		seen := map[[2]int]int{}
+		for _, w := range NotAt(api.Inst{Code: codes[0]}, codes...) {
+			s := w.Machine.Sessions[w.At]
+			code := -1
+			if s.Pc < len(s.Prog) {
+				code = s.Prog[s.Pc].Code
+			}
+			if s.Step == 0 && slices.Contains(codes, code) || !mach.May(w.Machine) {
+				t.Errorf("codes %v: %s: at %d of %s", codes, w.What, w.At, tell(w.Machine))
+			}
+			seen[[2]int{s.Step, code}]++
+		}
+		if want := 7*(8-len(codes)) + 6; len(seen) != want {
+			t.Errorf("codes %v: %d of steps and codes are told, want %d: %v", codes, len(seen), want, seen)
+		}
 	}
 }

@@ -2,6 +2,8 @@ package sample
 
 import (
 	"slices"
+	"strconv"
+	"sync"
 
 	"veil/api"
 )
@@ -25,6 +27,41 @@ func Broken(m api.Machine, call Call) string {
 		return "R4: an answer shares a list with what was handed in, with another answer or with itself"
 	}
 	return turned(m, call, handed, first, second)
+}
+
+// AnyBroken tells how a call, asked of these machines, each alone, by turns, and from several goroutines at one time, breaks what holds of all calls; "" if it does not.
+func AnyBroken(ms []api.Machine, call Call) string {
+	for which, m := range ms {
+		if what := Broken(m, call); what != "" {
+			return what + ", of machine " + strconv.Itoa(which)
+		}
+	}
+	want := answers(ms, call)
+	if !slices.EqualFunc(answers(ms, call), want, slices.Equal) {
+		return "R5: what was asked of other machines tells in an answer"
+	}
+	var wg sync.WaitGroup
+	var got [4][][]int
+	for which := range got {
+		wg.Go(func() { got[which] = answers(ms, call) })
+	}
+	wg.Wait()
+	for _, all := range got {
+		if !slices.EqualFunc(all, want, slices.Equal) {
+			return "R5: what is asked from other goroutines tells in an answer"
+		}
+	}
+	return ""
+}
+
+// answers tells, as numbers, what is answered of each of these machines.
+func answers(ms []api.Machine, call Call) [][]int {
+	var all [][]int
+	for _, m := range ms {
+		next, errno := call(m)
+		all = append(all, append(row(Copy(next)), int(errno)))
+	}
+	return all
 }
 
 // turned writes over an answer and over what was handed in, and tells what else is turned by it.
