@@ -237,6 +237,22 @@ func TestAnyBrokenByTurns(t *testing.T) {
 	}
 }
 
+// A step that breaks a rule at one place, or next to the places, alone.
+func TestAnyBrokenAt(t *testing.T) {
+	ms := []api.Machine{Machine(0), Machine(3)}
+	for wrong := -2; wrong <= 5; wrong++ {
+		what := AnyBrokenAt(ms, func(m api.Machine, at int) (api.Machine, api.Errno) {
+			if at == wrong {
+				return m, 0
+			}
+			return Copy(m), 0
+		})
+		if got, want := what != "", wrong >= -1 && wrong <= 4; got != want {
+			t.Errorf("a step that breaks a rule at %d is told to break %q", wrong, what)
+		}
+	}
+}
+
 // ready sets a session at its CodeWrite.
 func ready(s *api.Session) { s.Step, s.Pc = 0, 1 }
 
@@ -293,6 +309,29 @@ func TestNotAt(t *testing.T) {
 		}
 		if want := 7*(8-len(codes)) + 6; len(seen) != want {
 			t.Errorf("codes %v: %d of steps and codes are told, want %d: %v", codes, len(seen), want, seen)
+		}
+	}
+}
+
+// Each turn alone, and each two, once at each place, the one ahead in the row first.
+func TestSeveral(t *testing.T) {
+	would := func(at int) api.Machine { return api.Machine{Ceiling: 1, Sessions: []api.Session{{Id: at}}} }
+	turn := func(by int) func(m *api.Machine, at int) {
+		return func(m *api.Machine, at int) { m.Ceiling = 10*m.Ceiling + by; m.Sessions[0].Told += at }
+	}
+	ceilings := []int{12, 123, 13, 124, 134, 14}
+	list := Several(would, turn(2), turn(3), turn(4))
+	if len(list) != 4*len(ceilings) {
+		t.Fatalf("there are %d, want %d", len(list), 4*len(ceilings))
+	}
+	for which, w := range list {
+		at, ceiling := which/len(ceilings), ceilings[which%len(ceilings)]
+		turns := 1
+		if ceiling > 100 {
+			turns = 2
+		}
+		if s := w.Machine.Sessions[0]; w.At != at || s.Id != at || w.Machine.Ceiling != ceiling || s.Told != turns*at {
+			t.Errorf("%d is %s at %d, want %d at %d", which, tell(w.Machine), w.At, ceiling, at)
 		}
 	}
 }

@@ -11,6 +11,9 @@ import (
 // Call is a layer's call, all but its machine told.
 type Call func(m api.Machine) (api.Machine, api.Errno)
 
+// Step is a layer's call that is told a machine and a session's place alone.
+type Step func(m api.Machine, at int) (api.Machine, api.Errno)
+
 // Broken tells how a call, asked of such a machine, breaks what holds of all calls, rules R4 and R5; "" if it does not.
 func Broken(m api.Machine, call Call) string {
 	handed := Roomy(m)
@@ -49,6 +52,17 @@ func AnyBroken(ms []api.Machine, call Call) string {
 	for _, all := range got {
 		if !slices.EqualFunc(all, want, slices.Equal) {
 			return "R5: what is asked from other goroutines tells in an answer"
+		}
+	}
+	return ""
+}
+
+// AnyBrokenAt tells the same of a step, asked at each place of a session and next to them.
+func AnyBrokenAt(ms []api.Machine, step Step) string {
+	for at := -1; at <= 4; at++ {
+		call := func(m api.Machine) (api.Machine, api.Errno) { return step(m, at) }
+		if what := AnyBroken(ms, call); what != "" {
+			return what + ", at " + strconv.Itoa(at)
 		}
 	}
 	return ""

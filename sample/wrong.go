@@ -71,6 +71,24 @@ func NotAt(right api.Inst, codes ...int) []Wrong {
 	return all
 }
 
+// Several tells machines that would do at a place, made wrong there by each two of these turns, and by each one alone. They turn in their row, so one that takes sessions away is to be the last.
+func Several(would func(at int) api.Machine, turns ...func(m *api.Machine, at int)) []Wrong {
+	var all []Wrong
+	for at := range 4 {
+		for second, turn := range turns {
+			for first := range second + 1 {
+				m := would(at)
+				if first != second {
+					turns[first](&m, at)
+				}
+				turn(&m, at)
+				all = append(all, Wrong{"turns " + strconv.Itoa(first) + " and " + strconv.Itoa(second), m, at})
+			}
+		}
+	}
+	return all
+}
+
 // elsewhere tells the Step, Pc and Prog of sessions that NotAt speaks of. Behind a program's end lies what would do.
 func elsewhere(right api.Inst, codes []int) []api.Session {
 	var all []api.Session

@@ -263,7 +263,7 @@ func TestRefused(t *testing.T) {
 
 // Several of these at once.
 func TestSeveralAtOnce(t *testing.T) {
-	turns := []func(m *api.Machine, at int){
+	for _, w := range sample.Several(func(int) api.Machine { return writing(6) },
 		func(m *api.Machine, at int) { m.Sessions[at].Step = 5 },
 		func(m *api.Machine, at int) { m.Sessions[at].Step = 1 },
 		func(m *api.Machine, at int) { m.Sessions[at].Pc = 3 },
@@ -275,18 +275,8 @@ func TestSeveralAtOnce(t *testing.T) {
 		func(m *api.Machine, at int) { m.Sessions[at].Writes = make([]api.Write, 2) },
 		func(m *api.Machine, at int) { m.Sessions[3-at].Writes = writesOf(3, 3) },
 		func(m *api.Machine, at int) { m.Sessions = m.Sessions[:at] },
-	}
-	for at := range maxSessions {
-		for first := range turns {
-			for second := range first + 1 {
-				m := writing(6)
-				turns[second](&m, at)
-				if at < len(m.Sessions) && 3-at < len(m.Sessions) {
-					turns[first](&m, at)
-				}
-				stepRefused(t, fmt.Sprint("turns ", first, " and ", second), m, at)
-			}
-		}
+	) {
+		stepRefused(t, w.What, w.Machine, w.At)
 	}
 }
 
@@ -523,15 +513,6 @@ func TestOneBehindAnother(t *testing.T) {
 	}
 }
 
-// calls are Step at each place and beyond.
-func calls() map[int]sample.Call {
-	all := map[int]sample.Call{}
-	for at := -1; at <= maxSessions; at++ {
-		all[at] = func(m api.Machine) (api.Machine, api.Errno) { return Step(m, at) }
-	}
-	return all
-}
-
 // machines are some in which something is done, of each place of a word in Writes, and some that are refused.
 func machines() []api.Machine {
 	all := []api.Machine{{}, sample.Machine(0), sample.Machine(4)}
@@ -560,10 +541,8 @@ func machines() []api.Machine {
 
 // Nothing handed in is turned, kept or shared, and what is answered hangs on the arguments alone.
 func TestRules(t *testing.T) {
-	for at, call := range calls() {
-		if broken := sample.AnyBroken(machines(), call); broken != "" {
-			t.Errorf("%s: Step at %d", broken, at)
-		}
+	if broken := sample.AnyBrokenAt(machines(), Step); broken != "" {
+		t.Error(broken)
 	}
 }
 
