@@ -560,13 +560,9 @@ func TestRules(t *testing.T) {
 
 // One list that stands in a machine handed in several times stands in the answer as several.
 func TestListsThatWereOne(t *testing.T) {
-	ws := []api.Word{{Value: 5}, {Value: 6}, {Value: 7}, {Value: 8}}
 	prog, reads, writes := append([]api.Inst{{}}, three[1:]...), []api.Read{{}}, []api.Write{{Level: 2, Index: 1, Value: 8}}
 	for pc := range prog {
-		m := api.Machine{Words: [4][]api.Word{ws, ws, ws, ws}}
-		for at := range maxSessions {
-			m.Sessions = append(m.Sessions, api.Session{Id: at, Prog: prog, Pc: pc, Reads: reads, Writes: writes})
-		}
+		m := sample.Tangled(api.Session{Prog: prog, Pc: pc, Reads: reads, Writes: writes})
 		for at := range maxSessions {
 			if sample.Shared(stepped(t, m, at)) {
 				t.Errorf("R4: two lists of an answer are one")

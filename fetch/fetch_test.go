@@ -46,7 +46,7 @@ var below = [4][4]bool{{true}, {true, true}, {true, false, true}, {true, true, t
 // arounds are instructions that tell when they are asked in the stead of the one at Pc.
 var arounds = []api.Inst{{Code: 5}, {Code: 2, A: 3, B: 3, C: 3}, {Code: 2}, {Code: 3, A: 1, B: 1, C: 2}, {Code: 6, A: 9}, {Code: 0, A: 2, B: 77}}
 
-// spot is where a session stands: its label, which of the words it reads, into which register, its Pc in a program of n; around are the other instructions. Words are numbered from level 0's first to level 3's last.
+// spot is where a session stands: its label, which of the words it reads, into which register, its Pc in a program of n; around are the other instructions.
 type spot struct {
 	label, word, register, pc, n int
 	around                       api.Inst
@@ -63,29 +63,13 @@ func put(m api.Machine, at int, p spot) api.Machine {
 
 // calm is a machine in which no word is locked; its sessions read nothing and write nothing so far, and stand at a read of one word.
 func calm(word int) api.Machine {
-	m := sample.Machine(4)
-	for _, list := range m.Words {
-		for index := range list {
-			list[index].Lock = 0
-		}
-	}
+	m := sample.Unlocked(4)
 	for at := range m.Sessions {
 		s := &m.Sessions[at]
 		s.Reads, s.Writes, s.At = nil, nil, 0
 		put(m, at, spot{3, word, at, 1, 3, api.Inst{Code: 5}})
 	}
 	return m
-}
-
-func wordAt(m api.Machine, word int) *api.Word { return &m.Words[word/4][word%4] }
-
-// readsOf are reads of these words, as they are.
-func readsOf(m api.Machine, words ...int) []api.Read {
-	var rs []api.Read
-	for _, word := range words {
-		rs = append(rs, api.Read{Level: word / 4, Index: word % 4, Version: wordAt(m, word).Version})
-	}
-	return rs
 }
 
 // but are so many words but one, in a row that neither rises nor falls.
@@ -99,15 +83,6 @@ func but(word int, n int) []int {
 	return words[:n]
 }
 
-// writesOf are writes of these words, which rise; each Value tells its word.
-func writesOf(words ...int) []api.Write {
-	var ws []api.Write
-	for _, word := range words {
-		ws = append(ws, api.Write{Level: word / 4, Index: word % 4, Value: 200 + word})
-	}
-	return ws
-}
-
 // allBut are all words but one, rising.
 func allBut(word int) []int {
 	words := but(word, allWords-1)
@@ -118,10 +93,10 @@ func allBut(word int) []int {
 // each are machines that go each way at a read of one word, by the session at a place.
 func each(word int, at int) map[string]api.Machine {
 	all := map[string]api.Machine{own: calm(word), fresh: calm(word), known: calm(word), conflict: calm(word)}
-	all[own].Sessions[at].Writes = writesOf(word)
-	all[fresh].Sessions[at].Reads = readsOf(all[fresh], but(word, 2)...)
-	all[known].Sessions[at].Reads = readsOf(all[known], append(but(word, 2), word)...)
-	wordAt(all[conflict], word).Lock = 9
+	all[own].Sessions[at].Writes = sample.Writes(word)
+	all[fresh].Sessions[at].Reads = sample.Reads(all[fresh], but(word, 2)...)
+	all[known].Sessions[at].Reads = sample.Reads(all[known], append(but(word, 2), word)...)
+	sample.Word(all[conflict], word).Lock = 9
 	return all
 }
 
@@ -496,14 +471,14 @@ func TestOwnWrites(t *testing.T) {
 			for _, lock := range []int{0, 1, sample.Id(at) + 1, 9, 255} {
 				m := calm(word)
 				s := &m.Sessions[at]
-				*wordAt(m, word) = api.Word{Value: lock, Version: 65535 - lock, Lock: lock}
+				*sample.Word(m, word) = api.Word{Value: lock, Version: 65535 - lock, Lock: lock}
 				for _, value := range []int{0, 1, 128, 254, 255} {
 					s.Writes = []api.Write{{Level: word / 4, Index: word % 4, Value: value}}
 					if got := stepIs(t, m, at, own); got.Sessions[at].Regs[at] != value || len(got.Sessions[at].Reads) != 0 {
 						t.Fatalf("P15.1: of its own write of %d the session is %+v", value, got.Sessions[at])
 					}
 				}
-				s.Writes = writesOf(0, 1, 2, 3, 4, 5, 6, 7, 8, 9, 10, 11, 12, 13, 14, 15)
+				s.Writes = sample.Writes(0, 1, 2, 3, 4, 5, 6, 7, 8, 9, 10, 11, 12, 13, 14, 15)
 				stepIs(t, m, at, own)
 			}
 		}
@@ -517,7 +492,7 @@ func TestOwnWritesDoNotHangOnReads(t *testing.T) {
 			for n := range allWords {
 				m := calm(word)
 				s := &m.Sessions[at]
-				s.Writes, s.Reads = writesOf(word), readsOf(m, but(word, n)...)
+				s.Writes, s.Reads = sample.Writes(word), sample.Reads(m, but(word, n)...)
 				stepIs(t, m, at, own)
 				for index := range s.Reads {
 					s.Reads[index].Version++
@@ -526,7 +501,7 @@ func TestOwnWritesDoNotHangOnReads(t *testing.T) {
 				s.Reads = append(s.Reads, api.Read{Level: word / 4, Index: word % 4, Version: n})
 				stepIs(t, m, at, own)
 				for other := range allWords {
-					wordAt(m, other).Lock = 9 + other
+					sample.Word(m, other).Lock = 9 + other
 				}
 				stepIs(t, m, at, own)
 			}
@@ -542,15 +517,15 @@ func TestOtherWrites(t *testing.T) {
 			s := &m.Sessions[at]
 			for other := range allWords {
 				if other != word {
-					s.Writes = writesOf(other)
+					s.Writes = sample.Writes(other)
 					stepIs(t, m, at, fresh)
 				}
 			}
-			s.Writes = writesOf(allBut(word)...)
+			s.Writes = sample.Writes(allBut(word)...)
 			stepIs(t, m, at, fresh)
 			for other := range maxSessions {
 				if other != at {
-					m.Sessions[other].Writes, m.Sessions[other].Reads = writesOf(word), readsOf(m, word)
+					m.Sessions[other].Writes, m.Sessions[other].Reads = sample.Writes(word), sample.Reads(m, word)
 				}
 			}
 			stepIs(t, m, at, fresh)
@@ -566,15 +541,15 @@ func TestLocksOfTheWord(t *testing.T) {
 		for word := at; word < allWords; word += 3 {
 			for lock := range 256 {
 				m := calm(word)
-				wordAt(m, word).Lock = lock
+				sample.Word(m, word).Lock = lock
 				if lock == 0 {
 					stepIs(t, m, at, fresh)
 					continue
 				}
 				stepIs(t, m, at, conflict)
-				m.Sessions[at].Reads = readsOf(m, but(word, 1)...)
+				m.Sessions[at].Reads = sample.Reads(m, but(word, 1)...)
 				stepIs(t, m, at, conflict)
-				m.Sessions[at].Reads = readsOf(m, word)
+				m.Sessions[at].Reads = sample.Reads(m, word)
 				stepIs(t, m, at, conflict)
 			}
 		}
@@ -601,9 +576,9 @@ func eachReadIs(t *testing.T, at int, word int, words []int, which int, way stri
 	t.Helper()
 	m := calm(word)
 	s := &m.Sessions[at]
-	w := wordAt(m, words[which])
+	w := sample.Word(m, words[which])
 	w.Version = 500
-	s.Reads = readsOf(m, words...)
+	s.Reads = sample.Reads(m, words...)
 	stepIs(t, m, at, way)
 	mine := sample.Id(at) + 1
 	for _, lock := range []int{mine, mine%255 + 1, max(mine-1, 1), 9, 255, 0} {
@@ -627,13 +602,13 @@ func TestWordsThatWereNotRead(t *testing.T) {
 			read := but(word, 3)
 			for other := range allWords {
 				if other != word && !slices.Contains(read, other) {
-					wordAt(m, other).Lock = 1 + other*16
+					sample.Word(m, other).Lock = 1 + other*16
 				}
 			}
 			for other := range m.Sessions {
 				m.Sessions[other].Reads = []api.Read{{Level: 1, Index: 1, Version: 60000}, {Level: 0, Index: 0, Version: 60000}}
 			}
-			m.Sessions[at].Reads = readsOf(m, read...)
+			m.Sessions[at].Reads = sample.Reads(m, read...)
 			stepIs(t, m, at, fresh)
 			m.Sessions[at].Reads = nil
 			stepIs(t, m, at, fresh)
@@ -648,13 +623,13 @@ func TestReadsOfEachNumber(t *testing.T) {
 			for n := range allWords {
 				m := calm(word)
 				s := &m.Sessions[at]
-				s.Reads = readsOf(m, but(word, n)...)
+				s.Reads = sample.Reads(m, but(word, n)...)
 				got := stepIs(t, m, at, fresh).Sessions[at].Reads
-				if last := (api.Read{Level: word / 4, Index: word % 4, Version: wordAt(m, word).Version}); len(got) != n+1 || got[n] != last {
+				if last := (api.Read{Level: word / 4, Index: word % 4, Version: sample.Word(m, word).Version}); len(got) != n+1 || got[n] != last {
 					t.Fatalf("P15.1: behind %d reads the reads are %+v, want %+v last", n, got, last)
 				}
 				for place := range n + 1 {
-					s.Reads = readsOf(m, slices.Insert(but(word, n), place, word)...)
+					s.Reads = sample.Reads(m, slices.Insert(but(word, n), place, word)...)
 					if again := stepIs(t, m, at, known).Sessions[at].Reads; !slices.Equal(again, s.Reads) {
 						t.Fatalf("P15.1: of %+v the reads are %+v", s.Reads, again)
 					}
@@ -671,9 +646,9 @@ func TestValuesAndVersions(t *testing.T) {
 			for _, version := range []int{0, 1, 255 - value, 257 * value, maxClock} {
 				m := calm(13)
 				m.Sessions[at].Regs = [4]int{255 - value, value, 255 - value, 7}
-				*wordAt(m, 13) = api.Word{Value: value, Version: version}
+				*sample.Word(m, 13) = api.Word{Value: value, Version: version}
 				stepIs(t, m, at, fresh)
-				m.Sessions[at].Reads = readsOf(m, 13)
+				m.Sessions[at].Reads = sample.Reads(m, 13)
 				stepIs(t, m, at, known)
 			}
 		}
@@ -764,7 +739,7 @@ func TestConflict(t *testing.T) {
 			t.Errorf("P15.1: behind a conflict the session is %+v", s)
 		}
 		for word := range allWords {
-			was, is := wordAt(m, word).Lock, wordAt(got, word).Lock
+			was, is := sample.Word(m, word).Lock, sample.Word(got, word).Lock
 			if was == sample.Id(at)+1 && is != 0 || was != sample.Id(at)+1 && is != was {
 				t.Errorf("P15.1: behind a conflict of session %d the lock of word %d is %d, was %d", at, word, is, was)
 			}
@@ -777,7 +752,7 @@ func TestOneBehindAnother(t *testing.T) {
 	for at := range maxSessions {
 		m := calm(0)
 		s := &m.Sessions[at]
-		s.Prog, s.Pc, s.Writes, s.Regs = nil, 0, writesOf(3), [4]int{}
+		s.Prog, s.Pc, s.Writes, s.Regs = nil, 0, sample.Writes(3), [4]int{}
 		for n := range maxInsts {
 			s.Prog = append(s.Prog, api.Inst{Code: 2, A: n % 4, B: n / 2 % 4, C: n % 2 * 3})
 		}
@@ -806,7 +781,7 @@ func TestVersionsBetweenTwoReads(t *testing.T) {
 					way = known
 				}
 				stepIs(t, m, at, way)
-				wordAt(m, word).Version++
+				sample.Word(m, word).Version++
 				stepIs(t, m, at, conflict)
 			}
 		}
@@ -858,13 +833,9 @@ func TestNothingIsTurnedOrShared(t *testing.T) {
 
 // One list that stands in a machine handed in several times stands in the answer as several.
 func TestListsThatWereOne(t *testing.T) {
-	ws := []api.Word{{Value: 5}, {Value: 6}, {Value: 7}, {Value: 8}}
 	prog, reads, writes := []api.Inst{{Code: 2}, {Code: 2, C: 1}, {Code: 2, C: 2}}, []api.Read{{}}, []api.Write{{Index: 2}}
 	for pc, way := range []string{known, fresh, own} {
-		m := api.Machine{Words: [4][]api.Word{ws, ws, ws, ws}}
-		for at := range maxSessions {
-			m.Sessions = append(m.Sessions, api.Session{Id: at, Prog: prog, Pc: pc, Reads: reads, Writes: writes})
-		}
+		m := sample.Tangled(api.Session{Prog: prog, Pc: pc, Reads: reads, Writes: writes})
 		for at := range maxSessions {
 			if sample.Shared(stepIs(t, m, at, way)) {
 				t.Errorf("R4: two lists of an answer are one")

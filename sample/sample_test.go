@@ -335,3 +335,32 @@ func TestSeveral(t *testing.T) {
 		}
 	}
 }
+
+// Each number of a machine tells, in its lists and in none, and how long these are; nil and room do not.
+func TestSame(t *testing.T) {
+	m := Machine(3)
+	if !Same(m, Copy(m)) || !Same(Roomy(m), m) || !Same(api.Machine{}, api.Machine{Sessions: []api.Session{}, Trace: []api.Event{}}) {
+		t.Error("what is the same is told not to be")
+	}
+	for which := range numbers(Copy(m)) {
+		other := Copy(m)
+		*numbers(other)[which]++
+		if Same(m, other) || Same(other, m) {
+			t.Errorf("with number %d turned it is told to be the same", which)
+		}
+	}
+	for which, turn := range []func(m *api.Machine){
+		func(m *api.Machine) { m.Clocks[3]++ },
+		func(m *api.Machine) { m.Ceiling++ },
+		func(m *api.Machine) { m.Words[2] = m.Words[2][:3] },
+		func(m *api.Machine) { m.Words[0], m.Words[1] = m.Words[0][:3], append(m.Words[0][3:4], m.Words[1]...) },
+		func(m *api.Machine) { m.Sessions = m.Sessions[:2] },
+		func(m *api.Machine) { m.Sessions[1].Writes = nil },
+		func(m *api.Machine) { m.Trace = nil },
+	} {
+		other := Copy(m)
+		if turn(&other); Same(m, other) {
+			t.Errorf("with turn %d it is told to be the same", which)
+		}
+	}
+}

@@ -23,7 +23,7 @@ func Broken(m api.Machine, call Call) string {
 	if !slices.Equal(row(handed), old) {
 		return "R4: what was handed in, or its room, was turned"
 	}
-	if !slices.Equal(row(Copy(first)), row(Copy(second))) || errno != again {
+	if !Same(first, second) || errno != again {
 		return "R5: two calls of one machine answer two things"
 	}
 	if Shared(handed, first, second) {
@@ -89,7 +89,7 @@ func turned(m api.Machine, call Call, handed api.Machine, first api.Machine, sec
 	if !slices.Equal(row(second), want) {
 		return "R4: writing over what was handed in turned an answer"
 	}
-	if third, _ := call(Roomy(m)); !slices.Equal(row(Copy(third)), row(Copy(second))) {
+	if third, _ := call(Roomy(m)); !Same(third, second) {
 		return "R5: what was written over an answer, or over what was handed in, tells in a later answer"
 	}
 	return ""
@@ -107,6 +107,11 @@ func Shared(ms ...api.Machine) bool {
 		}
 	}
 	return false
+}
+
+// Same: are two machines one, but for where their lists lie, and for the room behind these?
+func Same(one api.Machine, other api.Machine) bool {
+	return slices.Equal(row(Copy(one)), row(Copy(other)))
 }
 
 // row tells a machine as numbers: what stands in no list, how long its lists are, and what is in them and in their room.

@@ -36,6 +36,11 @@ func TestHasOfMachinesThatMayNotBe(t *testing.T) {
 			if Has(m, at) || AtCode(m, at, 0, 1, 2, 3, 4, 5, 6) {
 				t.Errorf("with fault %d, session %d is there", which, at)
 			}
+			for step := range 7 {
+				if AtStep(m, at, step) || AtWrite(m, at, step) {
+					t.Errorf("with fault %d, session %d is at Step %d", which, at, step)
+				}
+			}
 		}
 	}
 }
@@ -97,6 +102,43 @@ func TestAtCodeOfNoProgram(t *testing.T) {
 	for _, at := range append(far, 1) {
 		if AtCode(m, at, 0) {
 			t.Errorf("a code stands at session %d of one", at)
+		}
+	}
+}
+
+// Each Step beside each one asked for, of the session at each place, At from none of its writes to all of them, of each number of writes.
+func TestAtStepAndAtWrite(t *testing.T) {
+	for at := range 4 {
+		for step := range 7 {
+			for n := range 5 {
+				for so := range n + 1 {
+					m := sample.Machine(4)
+					s := &m.Sessions[at]
+					s.Step, s.Writes, s.At = step, sample.Writes(sample.But(-1, n)...), so
+					for asked := -1; asked <= 7; asked++ {
+						if got, want := AtStep(m, at, asked), asked == step; got != want {
+							t.Fatalf("at Step %d: AtStep(.., %d) is %v", step, asked, got)
+						}
+						if got, want := AtWrite(m, at, asked), asked == step && so < n; got != want {
+							t.Fatalf("at Step %d, At %d of %d writes: AtWrite(.., %d) is %v", step, so, n, asked, got)
+						}
+					}
+				}
+			}
+		}
+	}
+}
+
+func TestAtStepOfNoSession(t *testing.T) {
+	for n := range 5 {
+		m := sample.Machine(n)
+		for at := range m.Sessions {
+			m.Sessions[at].Step, m.Sessions[at].At = 0, 0
+		}
+		for _, at := range append(far, n) {
+			if AtStep(m, at, 0) || AtWrite(m, at, 0) {
+				t.Errorf("session %d of %d is at a Step", at, n)
+			}
 		}
 	}
 }

@@ -29,7 +29,7 @@ var labels = [][2]int{{0, 0}, {0, 1}, {0, 2}, {0, 3}, {1, 1}, {1, 3}, {2, 2}, {2
 // arounds are instructions that tell when they are asked in the stead of the one at Pc.
 var arounds = []api.Inst{{Code: 5}, {Code: 3, A: 3, B: 3, C: 3}, {Code: 3}, {Code: 2, A: 1, B: 1, C: 2}, {Code: 6, A: 9}, {Code: 0, A: 2, B: 77}}
 
-// spot is where a session stands: which of the words it writes, of which register, its Pc in a program of n; around are the other instructions. Words are numbered from level 0's first to level 3's last.
+// spot is where a session stands: which of the words it writes, of which register, its Pc in a program of n; around are the other instructions.
 type spot struct {
 	word, register, pc, n int
 	around                api.Inst
@@ -50,29 +50,6 @@ func writing(word int) api.Machine {
 		put(m, at, spot{word, at, 1, 3, api.Inst{Code: 5}})
 	}
 	return m
-}
-
-func wordAt(m api.Machine, word int) *api.Word { return &m.Words[word/4][word%4] }
-
-// writesOf are writes of these words, which rise; each Value tells its word.
-func writesOf(words ...int) []api.Write {
-	var ws []api.Write
-	for _, word := range words {
-		ws = append(ws, api.Write{Level: word / 4, Index: word % 4, Value: 200 + word})
-	}
-	return ws
-}
-
-// but are so many words but one, rising, from all over the levels.
-func but(word int, n int) []int {
-	var words []int
-	for k := range allWords {
-		if other := k * 5 % allWords; other != word && len(words) < n {
-			words = append(words, other)
-		}
-	}
-	slices.Sort(words)
-	return words
 }
 
 // from are the words from one on, ahead of another.
@@ -273,7 +250,7 @@ func TestSeveralAtOnce(t *testing.T) {
 		func(m *api.Machine, at int) { m.Clocks[3] = -1 },
 		func(m *api.Machine, at int) { m.Sessions[at].Regs[0] = 256 },
 		func(m *api.Machine, at int) { m.Sessions[at].Writes = make([]api.Write, 2) },
-		func(m *api.Machine, at int) { m.Sessions[3-at].Writes = writesOf(3, 3) },
+		func(m *api.Machine, at int) { m.Sessions[3-at].Writes = sample.Writes(3, 3) },
 		func(m *api.Machine, at int) { m.Sessions = m.Sessions[:at] },
 	) {
 		stepRefused(t, w.What, w.Machine, w.At)
@@ -321,7 +298,7 @@ func TestWritesSideBySide(t *testing.T) {
 			for first := range allWords {
 				for end := first; end <= allWords; end++ {
 					m := writing(word)
-					m.Sessions[at].Writes, m.Sessions[at].At = writesOf(from(first, end)...), 0
+					m.Sessions[at].Writes, m.Sessions[at].At = sample.Writes(from(first, end)...), 0
 					got := stepIs(t, m, at).Sessions[at].Writes
 					place, more := min(max(word-first, 0), end-first), 1
 					if word >= first && word < end {
@@ -343,7 +320,7 @@ func TestWritesAllOver(t *testing.T) {
 		for word := range allWords {
 			for n := range allWords {
 				m := writing(word)
-				m.Sessions[at].Writes, m.Sessions[at].At = writesOf(but(word, n)...), 0
+				m.Sessions[at].Writes, m.Sessions[at].At = sample.Writes(sample.But(word, n)...), 0
 				once := stepIs(t, m, at)
 				if got := len(once.Sessions[at].Writes); got != n+1 {
 					t.Fatalf("P16.1: behind %d writes there are %d", n, got)
@@ -361,13 +338,13 @@ func TestWritesAllOver(t *testing.T) {
 func TestWritesOfOneWord(t *testing.T) {
 	for at := range maxSessions {
 		for n := 1; n <= allWords; n++ {
-			words := but(-1, n)
+			words := sample.But(-1, n)
 			for place, word := range words {
 				for _, value := range []int{0, 1, 128, 255, 200 + word} {
 					m := writing(word)
-					m.Sessions[at].Writes, m.Sessions[at].At = writesOf(words...), n
+					m.Sessions[at].Writes, m.Sessions[at].At = sample.Writes(words...), n
 					m.Sessions[at].Regs[at] = value
-					want := writesOf(words...)
+					want := sample.Writes(words...)
 					want[place].Value = value
 					if got := stepIs(t, m, at).Sessions[at].Writes; !slices.Equal(got, want) {
 						t.Fatalf("P16.1: with %d of word %d the writes are %+v, want %+v", value, word, got, want)
@@ -384,7 +361,7 @@ func TestAtStays(t *testing.T) {
 		for n := range allWords + 1 {
 			for so := range n + 1 {
 				m := writing(11)
-				m.Sessions[at].Writes, m.Sessions[at].At = writesOf(from(0, n)...), so
+				m.Sessions[at].Writes, m.Sessions[at].At = sample.Writes(from(0, n)...), so
 				if got := stepIs(t, m, at).Sessions[at].At; got != so {
 					t.Fatalf("P16.1: At is %d, was %d of %d", got, so, n)
 				}
@@ -399,7 +376,7 @@ func TestNoWordTurns(t *testing.T) {
 		for word := range allWords {
 			for lock := range 256 {
 				m := writing(word)
-				*wordAt(m, word) = api.Word{Value: 255 - lock, Version: 257 * lock, Lock: lock}
+				*sample.Word(m, word) = api.Word{Value: 255 - lock, Version: 257 * lock, Lock: lock}
 				got := stepIs(t, m, at)
 				if fmt.Sprint(got.Words) != fmt.Sprint(m.Words) {
 					t.Fatalf("P16.1: behind a write of word %d the words are %v, were %v", word, got.Words, m.Words)
@@ -419,7 +396,7 @@ func TestReadsDoNotTell(t *testing.T) {
 				s.Reads = nil
 				for k := range n {
 					read := (word + 3*k) % allWords
-					s.Reads = append(s.Reads, api.Read{Level: read / 4, Index: read % 4, Version: wordAt(m, read).Version + k%2})
+					s.Reads = append(s.Reads, api.Read{Level: read / 4, Index: read % 4, Version: sample.Word(m, read).Version + k%2})
 				}
 				stepIs(t, m, at)
 			}
@@ -478,7 +455,7 @@ func TestNothingElseTurns(t *testing.T) {
 			m := writing(6)
 			for other := range m.Sessions {
 				if other != at {
-					m.Sessions[other].Step, m.Sessions[other].Pc, m.Sessions[other].Writes = step, other%3, writesOf(from(2, 9)...)
+					m.Sessions[other].Step, m.Sessions[other].Pc, m.Sessions[other].Writes = step, other%3, sample.Writes(from(2, 9)...)
 				}
 			}
 			stepIs(t, m, at)
@@ -526,7 +503,7 @@ func machines() []api.Machine {
 	for _, n := range []int{0, 1, 15, 16} {
 		m := writing(15)
 		for at := range m.Sessions {
-			m.Sessions[at].Writes, m.Sessions[at].At = writesOf(from(0, n)...), 0
+			m.Sessions[at].Writes, m.Sessions[at].At = sample.Writes(from(0, n)...), 0
 		}
 		all = append(all, m)
 	}
@@ -548,13 +525,9 @@ func TestRules(t *testing.T) {
 
 // One list that stands in a machine handed in several times stands in the answer as several.
 func TestListsThatWereOne(t *testing.T) {
-	ws := []api.Word{{Value: 5}, {Value: 6}, {Value: 7}, {Value: 8}}
-	prog, reads, writes := []api.Inst{{Code: 3}, {Code: 3, C: 1}, {Code: 3, B: 2, C: 2}}, []api.Read{{}}, writesOf(1, 3)
+	prog, reads, writes := []api.Inst{{Code: 3}, {Code: 3, C: 1}, {Code: 3, B: 2, C: 2}}, []api.Read{{}}, sample.Writes(1, 3)
 	for pc := range prog {
-		m := api.Machine{Words: [4][]api.Word{ws, ws, ws, ws}}
-		for at := range maxSessions {
-			m.Sessions = append(m.Sessions, api.Session{Id: at, Prog: prog, Pc: pc, Reads: reads, Writes: writes})
-		}
+		m := sample.Tangled(api.Session{Prog: prog, Pc: pc, Reads: reads, Writes: writes})
 		for at := range maxSessions {
 			if sample.Shared(stepIs(t, m, at)) {
 				t.Errorf("R4: two lists of an answer are one")
